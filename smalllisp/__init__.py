@@ -1,0 +1,1 @@
+"""A small Lisp: read, evaluated, written. Its one function for use is smalllisp.lisp.answers."""
