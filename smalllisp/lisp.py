@@ -1,9 +1,9 @@
 """The calls on one Lisp: their numbers are taken apart here, and their answers put together."""
 
 from smalllisp.evaluator import outcome
-from smalllisp.faults import MalformedText, NothingToRead
-from smalllisp.objects import Pair
-from smalllisp.primitives import first_definitions
+from smalllisp.faults import MalformedText, NothingToRead, WrongKind
+from smalllisp.objects import Pair, kind_of, same
+from smalllisp.primitives import car, cdr, first_definitions
 from smalllisp.reader import read_first
 from smalllisp.writer import text_of
 
@@ -12,6 +12,7 @@ READ = 1
 NOTHING_THERE = -1
 REFUSED = -2
 MALFORMED = -3
+NO_PAIR = -3
 TOO_LONG = -4
 
 REGISTER_COUNT = 16
@@ -29,6 +30,10 @@ class Lisp:
 
 def is_place(number):
     return 0 <= number < REGISTER_COUNT
+
+
+def are_places(numbers):
+    return all([is_place(number) for number in numbers])
 
 
 def answer_to_read(lisp, handed):
@@ -69,10 +74,41 @@ def answer_to_evaluate(lisp, handed):
 
 
 def answer_to_cons(lisp, handed):
-    if not all([is_place(number) for number in handed]):
+    if not are_places(handed):
         return [REFUSED]
     lisp.held[handed[0]] = Pair(lisp.held[handed[1]], lisp.held[handed[2]])
     return [0]
+
+
+def answer_to_car(lisp, handed):
+    return answer_with_part(lisp, handed, car)
+
+
+def answer_to_cdr(lisp, handed):
+    return answer_with_part(lisp, handed, cdr)
+
+
+def answer_with_part(lisp, handed, part_of):
+    if not are_places(handed):
+        return [REFUSED]
+    try:
+        part = part_of([lisp.held[handed[1]]])
+    except WrongKind:
+        return [NO_PAIR]
+    lisp.held[handed[0]] = part
+    return [0]
+
+
+def answer_to_kind(lisp, handed):
+    if not are_places(handed):
+        return [REFUSED]
+    return [kind_of(lisp.held[handed[0]])]
+
+
+def answer_to_same(lisp, handed):
+    if not are_places(handed):
+        return [REFUSED]
+    return [1 if same(lisp.held[handed[0]], lisp.held[handed[1]]) else 0]
 
 
 # By number: how many whole numbers a call has ahead of its text, if it has one, and what answers it.
@@ -81,6 +117,10 @@ CALLS = {
     2: (2, answer_to_write),
     3: (2, answer_to_evaluate),
     4: (3, answer_to_cons),
+    5: (2, answer_to_car),
+    6: (2, answer_to_cdr),
+    7: (1, answer_to_kind),
+    8: (2, answer_to_same),
 }
 
 

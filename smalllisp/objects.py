@@ -7,6 +7,13 @@ of the classes below. These have no equality of their own, so == asks of them wh
 LOWEST = -2147483648
 HIGHEST = 2147483647
 
+KIND_NIL = 0
+KIND_NUMBER = 1
+KIND_NAME = 2
+KIND_PAIR = 3
+KIND_FUNCTION = 4
+KIND_PRIMITIVE = 5
+
 NAME_T = (116,)
 NAME_QUOTE = (113, 117, 111, 116, 101)
 NAME_IF = (105, 102)
@@ -39,6 +46,20 @@ def is_number(thing):
 
 def is_name(thing):
     return isinstance(thing, tuple)
+
+
+def kind_of(thing):
+    if thing is None:
+        return KIND_NIL
+    if is_number(thing):
+        return KIND_NUMBER
+    if is_name(thing):
+        return KIND_NAME
+    if isinstance(thing, Pair):
+        return KIND_PAIR
+    if isinstance(thing, Function):
+        return KIND_FUNCTION
+    return KIND_PRIMITIVE
 
 
 def in_number_range(number):

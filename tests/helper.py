@@ -26,6 +26,22 @@ def cons(r, a, d):
     return [4, r, a, d]
 
 
+def car(r, a):
+    return [5, r, a]
+
+
+def cdr(r, a):
+    return [6, r, a]
+
+
+def kind(r):
+    return [7, r]
+
+
+def same(a, b):
+    return [8, a, b]
+
+
 def answers_to(*calls):
     """One list for each call, as it was answered."""
     given = answers([number for call in calls for number in call])
